@@ -1,0 +1,1 @@
+"""A totalisator's day, layer a: cards."""

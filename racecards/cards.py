@@ -1,0 +1,33 @@
+"""The calls: each takes a text as a list of bytes and answers a list of whole numbers."""
+
+from racecards.faults import Fault
+from racecards.reading import read_card
+from racecards.writing import card_text
+
+MOST_BYTES = 65536
+
+DONE = 0
+TOO_LONG = -2
+FAULTY = -6
+
+
+def judge(text):
+    """[0] of a card's text; [-2] of one that's too long; [-6, kind, place] of one with a first fault."""
+    if len(text) > MOST_BYTES:
+        return [TOO_LONG]
+    try:
+        read_card(text)
+    except Fault as fault:
+        return [FAULTY, fault.kind, fault.place]
+    return [DONE]
+
+
+def one_text(text):
+    """0 and the card's one text; [-2] of a text that's too long, [-6] of one with a fault."""
+    if len(text) > MOST_BYTES:
+        return [TOO_LONG]
+    try:
+        card = read_card(text)
+    except Fault:
+        return [FAULTY]
+    return [DONE] + card_text(card)
