@@ -2,6 +2,7 @@
 
 from racecards.faults import Fault
 from racecards.reading import read_card
+from racecards.telling import races_told
 from racecards.writing import card_text
 
 MOST_BYTES = 65536
@@ -11,6 +12,18 @@ TOO_LONG = -2
 FAULTY = -6
 
 
+def answer_of(text, tell):
+    """What tell answers of the text's card; [-2] of a text that's too long, [-6] of one with a fault."""
+    if len(text) > MOST_BYTES:
+        return [TOO_LONG]
+    try:
+        card = read_card(text)
+    except Fault:
+        return [FAULTY]
+    return tell(card)
+
+
+# The one call that tells the fault too, so it doesn't go by answer_of.
 def judge(text):
     """[0] of a card's text; [-2] of one that's too long; [-6, kind, place] of one with a first fault."""
     if len(text) > MOST_BYTES:
@@ -23,11 +36,15 @@ def judge(text):
 
 
 def one_text(text):
-    """0 and the card's one text; [-2] of a text that's too long, [-6] of one with a fault."""
-    if len(text) > MOST_BYTES:
-        return [TOO_LONG]
-    try:
-        card = read_card(text)
-    except Fault:
-        return [FAULTY]
-    return [DONE] + card_text(card)
+    """0 and the card's one text; [-2] or [-6] of a text that's refused."""
+    return answer_of(text, lambda card: [DONE] + card_text(card))
+
+
+def day(text):
+    """0 and the bytes of the day's name; [-2] or [-6] of a text that's refused."""
+    return answer_of(text, lambda card: [DONE] + card.day_name)
+
+
+def races(text):
+    """0, how many races, and what there is to tell of each; [-2] or [-6] of a text that's refused."""
+    return answer_of(text, lambda card: [DONE] + races_told(card))

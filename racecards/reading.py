@@ -32,6 +32,9 @@ class Race:
         """How many heads there are: each couple has a b of its own."""
         return self.runners - len(self.couples)
 
+    def couples_by_b(self):
+        return sorted(self.couples, key=lambda couple: couple[1])
+
 
 class Pool:
     def __init__(self, name, kind, k, race, take, brk, least, unit, none):

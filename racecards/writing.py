@@ -4,13 +4,9 @@ from racecards.lines import BLANK, NL, bytes_of
 from racecards.reading import KINDS, NONES
 
 
-def couples_by_b(race):
-    return sorted(race.couples, key=lambda couple: couple[1])
-
-
 def race_text(race):
     words = ["race", str(race.runners)]
-    for couple in couples_by_b(race):
+    for couple in race.couples_by_b():
         words.extend(["couple", str(couple[0]), str(couple[1])])
     return bytes_of(" ".join(words)) + [NL]
 

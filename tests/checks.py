@@ -2,8 +2,11 @@
 
 import unittest
 
-from racecards.cards import judge, one_text
-from tests.samples import judged, row, written
+from racecards.cards import day, judge, one_text, races
+from tests.samples import FAULTS, TOO_LONG, judged, row, written
+
+# All calls with a text but judge: of a text with a fault they answer -6 alone.
+TELLING_CALLS = (one_text, day, races)
 
 
 class CardTest(unittest.TestCase):
@@ -15,4 +18,22 @@ class CardTest(unittest.TestCase):
         place = marked.index("@")
         text = row(marked[:place] + marked[place + 1:])
         self.assertEqual(judge(text), [-6, kind, place], marked[-200:])
-        self.assertEqual(one_text(text), [-6], marked[-200:])
+        for call in TELLING_CALLS:
+            self.assertEqual(call(text), [-6], marked[-200:])
+
+    def refuses(self, call):
+        """-2 of a text that's too long, -6 of one with a fault of whatever kind, and nothing behind it."""
+        for kind, text in FAULTS.items():
+            self.assertEqual(judged(text)[:2], [-6, kind])
+            self.assertEqual(call(row(text)), [-6], kind)
+        self.assertEqual(len(row(TOO_LONG)), 65537)
+        for text in (row(TOO_LONG), [0] * 65537, [10] * 65537, [32] * 66000, [255] * 66000):
+            self.assertEqual(call(text), [-2])
+        for text in (row(TOO_LONG[:-1]), [0] * 65536, [10] * 65536, []):
+            self.assertEqual(call(text), [-6])
+
+    def tells_the_same(self, call, text):
+        """Of the card's one text the call answers what it answers of the text; gives the answer back."""
+        answer = call(row(text))
+        self.assertEqual(call(one_text(row(text))[1:]), answer, text)
+        return answer

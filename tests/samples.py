@@ -58,3 +58,18 @@ def pool(name="win", kind="place", k=1, race=1, take=150, brk=10, least=100, uni
         f"pool {name} {kind} {k} from {race} take {take} break {brk}"
         f" least {least} unit {unit} none {none}\n"
     )
+
+
+# A text of each kind of fault, each with as much of a card in front of it as there may be.
+FAULTS = {
+    1: SMALL + "pool ex",
+    2: SMALL + "\n",
+    3: SMALL + RACE,
+    4: SMALL + pool(name="ex", take=401),
+    5: SMALL + POOL,
+    6: DAY + RACE * 17,
+    7: DAY + "race 2 couple 1 2\n" + POOL + pool(name="ex", k=2),
+    8: DAY,
+}
+# The card in front of it would be one by itself.
+TOO_LONG = SMALL + "x" * (65537 - len(SMALL))

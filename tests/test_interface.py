@@ -11,7 +11,7 @@ from unittest import mock
 from racecards import cards
 from tests.samples import DAY, MIXED, POOL, RACE, SMALL, large, row
 
-CALLS = (cards.judge, cards.one_text)
+CALLS = (cards.judge, cards.one_text, cards.day, cards.races)
 TEXTS = (
     "", "\n", "day monday", "day 1\n", DAY, DAY + RACE, SMALL, SMALL + POOL, SMALL + RACE, MIXED, large(),
     DAY + "race 9 couple 3 9 couple 2 8 couple 1 7\n", DAY + "race 9 couple 3 9 couple 2 9\n",
@@ -37,6 +37,8 @@ class Interface(unittest.TestCase):
             self.assertEqual(list(inspect.signature(call).parameters), ["text"])
         self.assertEqual(cards.judge(text=row(SMALL)), [0])
         self.assertEqual(cards.one_text(text=row(SMALL)), [0] + row(SMALL))
+        self.assertEqual(cards.day(text=row(SMALL)), [0] + row("monday"))
+        self.assertEqual(cards.races(text=row(SMALL)), [0, 1, 8, 0])
 
     def test_lists_of_whole_numbers(self):
         for call in CALLS:
@@ -65,14 +67,14 @@ class Interface(unittest.TestCase):
                 self.assertEqual(call(Untouched(row(text))), call(row(text)))
 
     def test_the_answer_is_a_list_of_its_own(self):
-        text = row(SMALL)
-        first = cards.one_text(text)
-        first.append(0)
-        first[1] = 0
-        self.assertEqual(text, row(SMALL))
-        self.assertEqual(cards.one_text(text), [0] + row(SMALL))
-        cards.judge(text).append(5)
-        self.assertEqual(cards.judge(text), [0])
+        for call in CALLS:
+            text = row(SMALL)
+            first = call(text)
+            before = list(first)
+            first.append(5)
+            first[0] = 7
+            self.assertEqual(text, row(SMALL))
+            self.assertEqual(call(text), before)
 
     def test_the_same_call_gives_the_same_answer(self):
         first = [call(row(text)) for call in CALLS for text in TEXTS]
@@ -104,19 +106,18 @@ class Interface(unittest.TestCase):
 class Long(unittest.TestCase):
     """What is as long as its input is gone through by loops."""
 
-    def answers(self, text, judged, written):
-        """Both calls' answers, with room for forty calls within one another alone."""
+    def answers(self, text):
+        """All calls' answers, with room for forty calls within one another alone."""
         handed = row(text)
         limit = sys.getrecursionlimit()
         sys.setrecursionlimit(len(inspect.stack()) + 40)
         try:
-            told = [cards.judge(handed), cards.one_text(handed)]
+            return [call(handed) for call in CALLS]
         finally:
             sys.setrecursionlimit(limit)
-        self.assertEqual(told, [judged, written])
 
     def has_fault(self, kind, place, text):
-        self.answers(text, [-6, kind, place], [-6])
+        self.assertEqual(self.answers(text), [[-6, kind, place]] + [[-6]] * (len(CALLS) - 1))
 
     def test_many_words(self):
         couple = " couple 1 2"
@@ -138,7 +139,10 @@ class Long(unittest.TestCase):
         self.has_fault(2, 65534, "x" * 65534 + " \n")
 
     def test_the_largest_card(self):
-        self.answers(large(), [0], [0] + row(large()))
+        told = self.answers(large())
+        self.assertEqual(told, [call(row(large())) for call in CALLS])
+        self.assertEqual([answer[0] for answer in told], [0] * len(CALLS))
+        self.assertEqual(told[1], [0] + row(large()))
 
 
 if __name__ == "__main__":

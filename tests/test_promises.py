@@ -2,9 +2,11 @@
 
 import unittest
 
-from racecards.cards import judge, one_text
+from racecards.cards import day, judge, one_text, races
+from tests import second_telling
 from tests.alterations import altered
-from tests.samples import DAY, MIXED, POOL, RACE, SMALL, large
+from tests.checks import TELLING_CALLS
+from tests.samples import DAY, FAULTS, MIXED, POOL, RACE, SMALL, large
 from tests.second_reading import first_fault
 
 CROWDED = DAY + "race 9 couple 3 4 couple 1 2 couple 3 9\nrace 2\n" + POOL
@@ -31,6 +33,9 @@ class Promises(unittest.TestCase):
         self.assertEqual(judge(once[1:]), [0])
         self.assertEqual(one_text(once[1:]), once)
         self.assertEqual(sorted(bytes(once[1:]).split()), sorted(text.split()))
+        for told in (list(text), once[1:]):
+            self.assertEqual(day(told), second_telling.day_answer(text), text)
+            self.assertEqual(races(told), second_telling.races_answer(text), text)
 
     def counts_for_nothing(self, text, answer, tail):
         """What is behind the fault's line is put by the tail: the same is told."""
@@ -48,7 +53,8 @@ class Promises(unittest.TestCase):
                 cards += 1
                 self.is_one_card(text)
             else:
-                self.assertEqual(one_text(list(text)), [-6], text)
+                for call in TELLING_CALLS:
+                    self.assertEqual(call(list(text)), [-6], text)
                 self.counts_for_nothing(text, answer, TAILS[number % len(TAILS)])
         self.assertGreater(cards, 50)
 
@@ -74,6 +80,18 @@ class Promises(unittest.TestCase):
             answer = judge(list(start.encode()))
             for tail in TAILS:
                 self.assertEqual(judge(list(start.encode() + tail)), answer)
+                for call in TELLING_CALLS:
+                    self.assertEqual(call(list(start.encode() + tail)), [-6])
+
+    def test_behind_each_kind_of_fault_nothing_counts(self):
+        for kind in (2, 3, 4, 5, 6, 7):
+            answer = judge(list(FAULTS[kind].encode()))
+            self.assertEqual(answer[:2], [-6, kind])
+            for tail in TAILS:
+                text = list(FAULTS[kind].encode() + tail)
+                self.assertEqual(judge(text), answer)
+                for call in TELLING_CALLS:
+                    self.assertEqual(call(text), [-6])
 
     def test_the_second_reading_sees_all_kinds(self):
         seen = {first_fault(text) and first_fault(text)[0] for text in altered(CROWDED.encode())}
