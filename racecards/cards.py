@@ -2,13 +2,14 @@
 
 from racecards.faults import Fault
 from racecards.reading import read_card
-from racecards.telling import races_told
+from racecards.telling import pool_number, pools_told, races_told
 from racecards.writing import card_text
 
 MOST_BYTES = 65536
 
 DONE = 0
 TOO_LONG = -2
+NO_POOL = -4
 FAULTY = -6
 
 
@@ -48,3 +49,20 @@ def day(text):
 def races(text):
     """0, how many races, and what there is to tell of each; [-2] or [-6] of a text that's refused."""
     return answer_of(text, lambda card: [DONE] + races_told(card))
+
+
+def pools(text):
+    """0, how many pools, and what there is to tell of each; [-2] or [-6] of a text that's refused."""
+    return answer_of(text, lambda card: [DONE] + pools_told(card))
+
+
+def found(card, name):
+    number = pool_number(card, name)
+    if number is None:
+        return [NO_POOL]
+    return [DONE, number]
+
+
+def find(text, name):
+    """0 and the number of the pool of that name, or [-4]; [-2] or [-6] of a text that's refused."""
+    return answer_of(text, lambda card: found(card, name))

@@ -2,11 +2,20 @@
 
 import unittest
 
-from racecards.cards import day, judge, one_text, races
+from racecards.cards import day, find, judge, one_text, pools, races
 from tests.samples import FAULTS, TOO_LONG, judged, row, written
 
-# All calls with a text but judge: of a text with a fault they answer -6 alone.
-TELLING_CALLS = (one_text, day, races)
+
+def find_win(text):
+    return find(text, row("win"))
+
+
+def find_no_name(text):
+    return find(text, [])
+
+
+# All calls with a text but judge, as calls of a text alone: of a text with a fault they answer -6 alone.
+TELLING_CALLS = (one_text, day, races, pools, find_win, find_no_name)
 
 
 class CardTest(unittest.TestCase):

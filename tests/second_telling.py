@@ -25,3 +25,21 @@ def race_numbers(words):
 def races_answer(text):
     rows = lines_of(text, b"race")
     return [0, len(rows)] + [number for words in rows for number in race_numbers(words)]
+
+
+def pool_numbers(words):
+    name, kind, none = words[1], words[2], words[15]
+    kinds = {b"place": 0, b"order": 1, b"any": 2, b"legs": 3}
+    nones = {b"refund": 0, b"carry": 1, b"fewer": 2}
+    k, race, take, brk, least, unit = (int(words[at]) for at in (3, 5, 7, 9, 11, 13))
+    return [kinds[kind], k, race, nones[none], take, brk, least, unit, len(name), *name]
+
+
+def pools_answer(text):
+    rows = lines_of(text, b"pool")
+    return [0, len(rows)] + [number for words in rows for number in pool_numbers(words)]
+
+
+def find_answer(text, name):
+    names = [words[1] for words in lines_of(text, b"pool")]
+    return [0, names.index(name)] if name in names else [-4]

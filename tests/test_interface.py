@@ -9,9 +9,16 @@ import unittest
 from unittest import mock
 
 from racecards import cards
+from tests.checks import TELLING_CALLS
 from tests.samples import DAY, MIXED, POOL, RACE, SMALL, large, row
 
-CALLS = (cards.judge, cards.one_text, cards.day, cards.races)
+ARGUMENTS = {
+    "judge": ["text"], "one_text": ["text"], "day": ["text"], "races": ["text"], "pools": ["text"],
+    "find": ["text", "name"],
+}
+# Each as a call of a text alone.
+CALLS = (cards.judge,) + TELLING_CALLS
+NAMES = ("", "win", "d", "w", "monday", "Win", "\xff", "abcdefghij63", "x" * 100)
 TEXTS = (
     "", "\n", "day monday", "day 1\n", DAY, DAY + RACE, SMALL, SMALL + POOL, SMALL + RACE, MIXED, large(),
     DAY + "race 9 couple 3 9 couple 2 8 couple 1 7\n", DAY + "race 9 couple 3 9 couple 2 9\n",
@@ -33,12 +40,14 @@ class Untouched(list):
 
 class Interface(unittest.TestCase):
     def test_names_and_arguments(self):
-        for call in CALLS:
-            self.assertEqual(list(inspect.signature(call).parameters), ["text"])
+        for name, arguments in ARGUMENTS.items():
+            self.assertEqual(list(inspect.signature(getattr(cards, name)).parameters), arguments)
         self.assertEqual(cards.judge(text=row(SMALL)), [0])
         self.assertEqual(cards.one_text(text=row(SMALL)), [0] + row(SMALL))
         self.assertEqual(cards.day(text=row(SMALL)), [0] + row("monday"))
         self.assertEqual(cards.races(text=row(SMALL)), [0, 1, 8, 0])
+        self.assertEqual(cards.pools(text=row(SMALL)), [0, 1, 0, 1, 1, 0, 150, 10, 100, 100, 3, 119, 105, 110])
+        self.assertEqual(cards.find(text=row(SMALL), name=row("win")), [0, 0])
 
     def test_lists_of_whole_numbers(self):
         for call in CALLS:
@@ -60,6 +69,15 @@ class Interface(unittest.TestCase):
                 handed = row(text)
                 call(handed)
                 self.assertEqual(handed, row(text))
+
+    def test_a_name_that_is_handed_in_is_as_it_was(self):
+        for text in TEXTS:
+            for name in NAMES:
+                handed = [row(text), row(name)]
+                answer = cards.find(*handed)
+                self.assertEqual(handed, [row(text), row(name)])
+                self.assertEqual(cards.find(*handed), answer)
+                self.assertEqual(cards.find(Untouched(handed[0]), Untouched(handed[1])), answer)
 
     def test_what_is_handed_in_is_not_changed_for_a_while(self):
         for call in CALLS:
@@ -141,8 +159,7 @@ class Long(unittest.TestCase):
     def test_the_largest_card(self):
         told = self.answers(large())
         self.assertEqual(told, [call(row(large())) for call in CALLS])
-        self.assertEqual([answer[0] for answer in told], [0] * len(CALLS))
-        self.assertEqual(told[1], [0] + row(large()))
+        self.assertEqual(told[:2], [[0], [0] + row(large())])
 
 
 if __name__ == "__main__":

@@ -2,7 +2,7 @@
 
 import unittest
 
-from racecards.cards import day, judge, one_text, races
+from racecards.cards import day, find, judge, one_text, pools, races
 from tests import second_telling
 from tests.alterations import altered
 from tests.checks import TELLING_CALLS
@@ -10,6 +10,7 @@ from tests.samples import DAY, FAULTS, MIXED, POOL, RACE, SMALL, large
 from tests.second_reading import first_fault
 
 CROWDED = DAY + "race 9 couple 3 4 couple 1 2 couple 3 9\nrace 2\n" + POOL
+NAMES = (b"win", b"w", b"p6", b"d", b"monday", b"", b"Win", b"abcdefghijklm")
 TAILS = (b"", b"race 8\n", b"\n", b"\x00", b"pool", b"day x\nrace 2\n", b"x" * 300)
 
 
@@ -36,6 +37,9 @@ class Promises(unittest.TestCase):
         for told in (list(text), once[1:]):
             self.assertEqual(day(told), second_telling.day_answer(text), text)
             self.assertEqual(races(told), second_telling.races_answer(text), text)
+            self.assertEqual(pools(told), second_telling.pools_answer(text), text)
+            for name in NAMES:
+                self.assertEqual(find(told, list(name)), second_telling.find_answer(text, name), text)
 
     def counts_for_nothing(self, text, answer, tail):
         """What is behind the fault's line is put by the tail: the same is told."""
@@ -53,8 +57,8 @@ class Promises(unittest.TestCase):
                 cards += 1
                 self.is_one_card(text)
             else:
-                for call in TELLING_CALLS:
-                    self.assertEqual(call(list(text)), [-6], text)
+                call = TELLING_CALLS[number % len(TELLING_CALLS)]
+                self.assertEqual(call(list(text)), [-6], text)
                 self.counts_for_nothing(text, answer, TAILS[number % len(TAILS)])
         self.assertGreater(cards, 50)
 
