@@ -1,4 +1,4 @@
-"""The calls: each takes a text as a list of bytes and answers a list of whole numbers."""
+"""The calls: each answers a list of whole numbers; a text and a name are lists of bytes."""
 
 from racecards.faults import Fault
 from racecards.reading import read_card
@@ -6,8 +6,12 @@ from racecards.telling import pool_number, pools_told, races_told
 from racecards.writing import card_text
 
 MOST_BYTES = 65536
+MOST_FACTORS = 64
+# 2 to the power of 64.
+MODULUS = 18446744073709551616
 
 DONE = 0
+NO_SUCH_RACE = -1
 TOO_LONG = -2
 NO_POOL = -4
 FAULTY = -6
@@ -56,7 +60,7 @@ def pools(text):
     return answer_of(text, lambda card: [DONE] + pools_told(card))
 
 
-def found(card, name):
+def find_answer(card, name):
     number = pool_number(card, name)
     if number is None:
         return [NO_POOL]
@@ -65,4 +69,24 @@ def found(card, name):
 
 def find(text, name):
     """0 and the number of the pool of that name, or [-4]; [-2] or [-6] of a text that's refused."""
-    return answer_of(text, lambda card: found(card, name))
+    return answer_of(text, lambda card: find_answer(card, name))
+
+
+def heads_answer(card, race):
+    if race < 1 or race > len(card.races):
+        return [NO_SUCH_RACE]
+    return [DONE] + card.races[race - 1].head_runners()
+
+
+def heads(race, text):
+    """0 and the interests of that race, rising, or [-1]; [-2] or [-6] of a text that's refused."""
+    return answer_of(text, lambda card: heads_answer(card, race))
+
+
+def orders(n, k):
+    """0 and n (n - 1) ... (n - k + 1) modulo 2^64, where k above 64 is taken for 64 first."""
+    product = 1
+    # Where k is above n one factor is 0, and so is the product from there on.
+    for taken in range(min(k, MOST_FACTORS)):
+        product = product * (n - taken) % MODULUS
+    return [DONE, product]

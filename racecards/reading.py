@@ -32,6 +32,11 @@ class Race:
         """How many heads there are: each couple has a b of its own."""
         return self.runners - len(self.couples)
 
+    def head_runners(self):
+        """The runners that are no couple's b, rising."""
+        highs = [couple[1] for couple in self.couples]
+        return [runner for runner in range(1, self.runners + 1) if runner not in highs]
+
     def couples_by_b(self):
         return sorted(self.couples, key=lambda couple: couple[1])
 

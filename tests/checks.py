@@ -2,7 +2,7 @@
 
 import unittest
 
-from racecards.cards import day, find, judge, one_text, pools, races
+from racecards.cards import day, find, heads, judge, one_text, pools, races
 from tests.samples import FAULTS, TOO_LONG, judged, row, written
 
 
@@ -14,8 +14,16 @@ def find_no_name(text):
     return find(text, [])
 
 
+def first_heads(text):
+    return heads(1, text)
+
+
+def no_heads(text):
+    return heads(0, text)
+
+
 # All calls with a text but judge, as calls of a text alone: of a text with a fault they answer -6 alone.
-TELLING_CALLS = (one_text, day, races, pools, find_win, find_no_name)
+TELLING_CALLS = (one_text, day, races, pools, find_win, find_no_name, first_heads, no_heads)
 
 
 class CardTest(unittest.TestCase):

@@ -43,3 +43,11 @@ def pools_answer(text):
 def find_answer(text, name):
     names = [words[1] for words in lines_of(text, b"pool")]
     return [0, names.index(name)] if name in names else [-4]
+
+
+def heads_answer(race, text):
+    rows = lines_of(text, b"race")
+    if race not in range(1, len(rows) + 1):
+        return [-1]
+    coupled = {int(word) for word in rows[race - 1][4::3]}
+    return [0] + sorted(set(range(1, int(rows[race - 1][1]) + 1)) - coupled)

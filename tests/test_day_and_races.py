@@ -76,7 +76,8 @@ class Races(CardTest):
     def test_no_couple_one_and_eight(self):
         self.tells([1, 24, 0], DAY + "race 24\n")
         self.tells([1, 24, 1, 23, 24], DAY + "race 24 couple 23 24\n")
-        self.tells([1, 24, 8, 1, 13, 2, 14, 3, 15, 4, 16, 5, 17, 6, 18, 7, 19, 8, 20], f"{DAY}race 24 {EIGHT_COUPLES}\n")
+        told = [24, 8, 1, 13, 2, 14, 3, 15, 4, 16, 5, 17, 6, 18, 7, 19, 8, 20]
+        self.tells([1] + told, f"{DAY}race 24 {EIGHT_COUPLES}\n")
 
     def test_couples_that_dont_come_by_b_rising(self):
         self.tells([1, 6, 3, 1, 2, 3, 4, 5, 6], DAY + "race 6 couple 5 6 couple 3 4 couple 1 2\n")

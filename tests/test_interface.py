@@ -14,10 +14,11 @@ from tests.samples import DAY, MIXED, POOL, RACE, SMALL, large, row
 
 ARGUMENTS = {
     "judge": ["text"], "one_text": ["text"], "day": ["text"], "races": ["text"], "pools": ["text"],
-    "find": ["text", "name"],
+    "find": ["text", "name"], "heads": ["race", "text"], "orders": ["n", "k"],
 }
 # Each as a call of a text alone.
 CALLS = (cards.judge,) + TELLING_CALLS
+NUMBERS = (0, 1, 2, 3, 4, 16, 17, 63, 64, 65, 100, 4294967295)
 NAMES = ("", "win", "d", "w", "monday", "Win", "\xff", "abcdefghij63", "x" * 100)
 TEXTS = (
     "", "\n", "day monday", "day 1\n", DAY, DAY + RACE, SMALL, SMALL + POOL, SMALL + RACE, MIXED, large(),
@@ -48,13 +49,22 @@ class Interface(unittest.TestCase):
         self.assertEqual(cards.races(text=row(SMALL)), [0, 1, 8, 0])
         self.assertEqual(cards.pools(text=row(SMALL)), [0, 1, 0, 1, 1, 0, 150, 10, 100, 100, 3, 119, 105, 110])
         self.assertEqual(cards.find(text=row(SMALL), name=row("win")), [0, 0])
+        self.assertEqual(cards.heads(race=1, text=row(SMALL)), [0, 1, 2, 3, 4, 5, 6, 7, 8])
+        self.assertEqual(cards.orders(n=5, k=2), [0, 20])
+
+    def is_row_of_whole_numbers(self, answer):
+        self.assertIs(type(answer), list)
+        self.assertEqual({type(number) for number in answer}, {int})
 
     def test_lists_of_whole_numbers(self):
         for call in CALLS:
             for text in TEXTS:
-                answer = call(row(text))
-                self.assertIs(type(answer), list)
-                self.assertEqual({type(number) for number in answer}, {int})
+                self.is_row_of_whole_numbers(call(row(text)))
+        for number in NUMBERS:
+            self.is_row_of_whole_numbers(cards.heads(number, row(MIXED)))
+            for k in NUMBERS:
+                self.is_row_of_whole_numbers(cards.orders(number, k))
+                self.assertEqual(len(cards.orders(number, k)), 2)
 
     def test_how_long_the_answers_are(self):
         for text in TEXTS:
@@ -79,6 +89,15 @@ class Interface(unittest.TestCase):
                 self.assertEqual(cards.find(*handed), answer)
                 self.assertEqual(cards.find(Untouched(handed[0]), Untouched(handed[1])), answer)
 
+    def test_a_text_handed_in_with_a_race_is_as_it_was(self):
+        for text in TEXTS:
+            for race in NUMBERS:
+                handed = row(text)
+                answer = cards.heads(race, handed)
+                self.assertEqual(handed, row(text))
+                self.assertEqual(cards.heads(race, handed), answer)
+                self.assertEqual(cards.heads(race, Untouched(handed)), answer)
+
     def test_what_is_handed_in_is_not_changed_for_a_while(self):
         for call in CALLS:
             for text in TEXTS:
@@ -101,6 +120,24 @@ class Interface(unittest.TestCase):
         turned = [call(row(text)) for call in reversed(CALLS) for text in reversed(TEXTS)]
         self.assertEqual(first, turned[::-1])
 
+    def test_whatever_was_called_between(self):
+        asked = [(call, row(text)) for call in CALLS for text in (SMALL, MIXED, SMALL + POOL, "x" * 65537)]
+        first = [call(text) for call, text in asked]
+        for between, other in asked:
+            for number, (call, text) in enumerate(asked):
+                between(other)
+                cards.orders(number, number)
+                self.assertEqual(call(text), first[number])
+
+    def test_orders_whatever_was_called_between(self):
+        first = {(n, k): cards.orders(n, k) for n in NUMBERS for k in NUMBERS}
+        for n, k in reversed(list(first)):
+            cards.heads(1, row(SMALL))
+            cards.orders(k, n)
+            self.assertEqual(cards.orders(n, k), first[n, k])
+        cards.orders(5, 5).append(1)
+        self.assertEqual(cards.orders(5, 5), [0, 120])
+
     def test_a_changed_text_is_read_anew(self):
         text = row(SMALL)
         self.assertEqual(cards.judge(text), [0])
@@ -117,6 +154,7 @@ class Interface(unittest.TestCase):
                 for call in CALLS:
                     for text in TEXTS:
                         call(row(text))
+                cards.orders(100, 64)
         self.assertEqual(printed.getvalue(), "")
         self.assertEqual(set(sys.modules), loaded)
 

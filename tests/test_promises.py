@@ -1,8 +1,8 @@
-"""A1, A2 and A4, asked of many texts that lie close to cards."""
+"""A1 to A4, asked of many texts that lie close to cards."""
 
 import unittest
 
-from racecards.cards import day, find, judge, one_text, pools, races
+from racecards.cards import day, find, heads, judge, one_text, pools, races
 from tests import second_telling
 from tests.alterations import altered
 from tests.checks import TELLING_CALLS
@@ -40,6 +40,19 @@ class Promises(unittest.TestCase):
             self.assertEqual(pools(told), second_telling.pools_answer(text), text)
             for name in NAMES:
                 self.assertEqual(find(told, list(name)), second_telling.find_answer(text, name), text)
+            for race in range(5):
+                self.assertEqual(heads(race, told), second_telling.heads_answer(race, text), text)
+        self.has_as_many_heads(list(text))
+
+    def has_as_many_heads(self, text):
+        """As many as there are runners less couples, in each race."""
+        told = races(text)[1:]
+        at = 1
+        for race in range(1, told[0] + 1):
+            runners, couples = told[at:at + 2]
+            self.assertEqual(len(heads(race, text)), 1 + runners - couples)
+            at += 2 + 2 * couples
+        self.assertEqual(at, len(told))
 
     def counts_for_nothing(self, text, answer, tail):
         """What is behind the fault's line is put by the tail: the same is told."""
@@ -86,6 +99,18 @@ class Promises(unittest.TestCase):
                 self.assertEqual(judge(list(start.encode() + tail)), answer)
                 for call in TELLING_CALLS:
                     self.assertEqual(call(list(start.encode() + tail)), [-6])
+
+    def test_of_a_cards_one_text_each_call_tells_the_same(self):
+        turned = DAY + "race 24 " + " ".join(f"couple {9 - a} {25 - a}" for a in range(1, 9)) + "\nrace 2\n" + POOL
+        for card in (DAY + RACE, SMALL, CROWDED, MIXED, turned, large()):
+            text = list(card.encode())
+            once = one_text(text)[1:]
+            for call in (judge,) + TELLING_CALLS:
+                self.assertEqual(call(once), call(text))
+            for name in NAMES:
+                self.assertEqual(find(once, list(name)), find(text, list(name)))
+            for race in range(18):
+                self.assertEqual(heads(race, once), heads(race, text))
 
     def test_behind_each_kind_of_fault_nothing_counts(self):
         for kind in (2, 3, 4, 5, 6, 7):
